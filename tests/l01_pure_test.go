@@ -25,6 +25,8 @@ func told(results ...any) string {
 			for _, y := range x {
 				s += told(y)
 			}
+		case impl.Picture:
+			s += fmt.Sprintf(" %d by %d:", x.Wide, x.High) + told(x.Lights)
 		default:
 			s += fmt.Sprintf(" %v", x)
 		}
