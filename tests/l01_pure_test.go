@@ -27,6 +27,11 @@ func told(results ...any) string {
 			}
 		case impl.Picture:
 			s += fmt.Sprintf(" %d by %d:", x.Wide, x.High) + told(x.Lights)
+		case impl.Bracket:
+			s += " times" + told(x.Times)
+			for _, shot := range x.Shots {
+				s += told(shot)
+			}
 		default:
 			s += fmt.Sprintf(" %v", x)
 		}

@@ -97,7 +97,7 @@ func TestSharesMissByNoMoreThanTold(t *testing.T) {
 	}
 }
 
-// narrowLog and narrowExp are those of math/big; chapter 1 is tested with them.
+// narrowLog is that of math/big; chapter 1 is tested with it.
 func narrowLog(x float32) float32 {
 	switch {
 	case x == 0:
