@@ -27,6 +27,12 @@ func told(results ...any) string {
 			}
 		case impl.Picture:
 			s += fmt.Sprintf(" %d by %d:", x.Wide, x.High) + told(x.Lights)
+		case []impl.Picture:
+			for _, p := range x {
+				s += told(p)
+			}
+		case impl.Curve:
+			s += " x" + told(x.X) + " y" + told(x.Y)
 		case impl.Bracket:
 			s += " times" + told(x.Times)
 			for _, shot := range x.Shots {
