@@ -31,6 +31,8 @@ func told(results ...any) string {
 			for _, p := range x {
 				s += told(p)
 			}
+		case impl.Color:
+			s += " color" + told(x.R, x.G, x.B)
 		case impl.Curve:
 			s += " x" + told(x.X) + " y" + told(x.Y)
 		case impl.Bracket:
