@@ -33,6 +33,8 @@ func told(results ...any) string {
 			}
 		case impl.Color:
 			s += " color" + told(x.R, x.G, x.B)
+		case impl.Way:
+			s += " way" + told(x.X, x.Y, x.Z)
 		case impl.Curve:
 			s += " x" + told(x.X) + " y" + told(x.Y)
 		case impl.Bracket:
