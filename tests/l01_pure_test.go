@@ -31,6 +31,12 @@ func told(results ...any) string {
 			for _, p := range x {
 				s += told(p)
 			}
+		case impl.Page:
+			s += fmt.Sprintf(" %q", x.Name) + told(x.Picture)
+		case []impl.Page:
+			for _, p := range x {
+				s += told(p)
+			}
 		case impl.Color:
 			s += " color" + told(x.R, x.G, x.B)
 		case impl.Way:
