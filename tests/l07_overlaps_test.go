@@ -211,15 +211,14 @@ func wantOverlap(t *testing.T, what string, want overlapTest) func(int64, float3
 }
 
 func bestOverlap(a, b impl.Picture, least, most int64) overlapTest {
-	best := overlapTest{}
+	best := overlapTest{miss: num(infBits)}
 	for over := most; over >= least; over-- {
-		miss := overlapError(a, b, over)
-		if !finite(miss) {
-			return overlapTest{}
+		if miss := overlapError(a, b, over); miss <= best.miss {
+			best = overlapTest{over, miss, finite(miss)}
 		}
-		if !best.ok || miss <= best.miss {
-			best = overlapTest{over, miss, true}
-		}
+	}
+	if !best.ok {
+		return overlapTest{}
 	}
 	return best
 }
@@ -269,14 +268,39 @@ func TestBestOverlap(t *testing.T) {
 	}
 }
 
-// BestOverlap fails where one OverlapError does.
+// An infinite error is not the least one where another one is finite; BestOverlap fails where all are infinite.
 func TestBestOverlapOfInfiniteErrors(t *testing.T) {
-	far := float32(1.9e19)
+	far, max := float32(1.9e19), num(greatest)
 	a, b := pictureOf(3, 1, 1, far, 2), pictureOf(3, 1, 2, 5, far)
-	wantOverlap(t, "BestOverlap of finite errors", overlapTest{1, 0, true})(impl.BestOverlap(a, b, 1, 1))
-	wantOverlap(t, "BestOverlap with an infinite last error", overlapTest{})(impl.BestOverlap(a, b, 1, 2))
-	wantOverlap(t, "BestOverlap with infinite errors", overlapTest{})(impl.BestOverlap(a, b, 2, 3))
-	wantOverlap(t, "BestOverlap with an infinite first error", overlapTest{})(impl.BestOverlap(pictureOf(2, 1, 1, far), pictureOf(2, 1, 1, far), 1, 2))
+	c := pictureOf(2, 1, 1, far)
+	d := pictureOf(2, 1, -max, max)
+	e, f := pictureOf(2, 1, 1.4e19, 1.4e19), pictureOf(2, 1, 0, 0)
+	g, h := pictureOf(4, 1, far, 1, 2, far), pictureOf(4, 1, 1, 2, far, 5)
+	for _, test := range []struct {
+		what        string
+		a, b        impl.Picture
+		least, most int64
+		want        overlapTest
+	}{
+		{"with a finite error only", a, b, 1, 1, overlapTest{1, 0, true}},
+		{"with an infinite last error", a, b, 1, 2, overlapTest{1, 0, true}},
+		{"with infinite last errors", a, b, 1, 3, overlapTest{1, 0, true}},
+		{"with an infinite error only", a, b, 2, 2, overlapTest{}},
+		{"with infinite errors only", a, b, 2, 3, overlapTest{}},
+		{"with an infinite first error", c, c, 1, 2, overlapTest{2, 0, true}},
+		{"with an infinite first difference", d, d, 1, 2, overlapTest{2, 0, true}},
+		{"with an infinite difference only", d, d, 1, 1, overlapTest{}},
+		{"with an infinite sum", e, f, 1, 2, overlapTest{1, times(1.4e19, 1.4e19), true}},
+		{"with an infinite sum only", e, f, 2, 2, overlapTest{}},
+		{"with infinite errors on both sides", g, h, 1, 4, overlapTest{3, 0, true}},
+		{"with infinite errors before", g, h, 1, 3, overlapTest{3, 0, true}},
+		{"with an infinite error behind", g, h, 3, 4, overlapTest{3, 0, true}},
+		{"with two infinite first errors", g, h, 1, 2, overlapTest{}},
+		{"from 0 on", a, b, 0, 1, overlapTest{}},
+		{"over a column too many", c, c, 1, 3, overlapTest{}},
+	} {
+		wantOverlap(t, "BestOverlap "+test.what, test.want)(impl.BestOverlap(test.a, test.b, test.least, test.most))
+	}
 }
 
 // One third of promise 8: parts that were cut out of a picture, and lie over each other, are joined to it.
