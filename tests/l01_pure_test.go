@@ -43,6 +43,10 @@ func told(results ...any) string {
 			s += " way" + told(x.X, x.Y, x.Z)
 		case impl.Curve:
 			s += " x" + told(x.X) + " y" + told(x.Y)
+		case impl.Desk:
+			s += told(x.Now, x.Curve) + fmt.Sprintf(" %d pages", len(x.Pages)) + told(x.Pages)
+		case []string:
+			s += fmt.Sprintf(" %q", x)
 		case impl.Bracket:
 			s += " times" + told(x.Times)
 			for _, shot := range x.Shots {
